@@ -45,3 +45,32 @@ def number_cell(sizes, values):
     for size, value in zip(sizes, values):
         cell = cell * size + value
     return cell
+
+
+def list_cells(sizes):
+    """The values of each cell, in the order of the cells' numbers."""
+    cells = [[]]
+    for size in sizes:
+        longer = []
+        for values in cells:
+            longer.extend([values + [value] for value in range(size)])
+        cells = longer
+    return cells
+
+
+def meets(values, condition):
+    """Whether the cell with these values has those that the condition tells."""
+    for value, asked in zip(values, condition):
+        if asked != ANY and asked != value:
+            return False
+    return True
+
+
+def count_fixed(condition):
+    """How many values a condition tells."""
+    return len(condition) - condition.count(ANY)
+
+
+def put_values(values, told):
+    """These values, with those that are told in their place."""
+    return [own if other == ANY else other for own, other in zip(values, told)]

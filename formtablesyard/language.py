@@ -1,18 +1,13 @@
 """The calls on a language, and what is answered to them."""
 
-from formtablesyard.cells import are_sizes, count_cells, is_cell, number_cell
+from formtablesyard.asking import ASKING
+from formtablesyard.cells import are_sizes, count_cells, number_cell
 from formtablesyard.reader import Reader
-from formtablesyard.rules import is_sound, read_rule
-from formtablesyard.state import Language
+from formtablesyard.refusals import FULL, NO_FEATURES, NOT_AS_ASKED, NOT_ODD, NOT_THERE, refuse_cell
+from formtablesyard.rules import find_cells, is_sound, read_rule
+from formtablesyard.state import NO_PARENT, Language
 from formtablesyard.words import Word, are_stems, is_odd_form, read_odd_form
 
-NOT_AS_ASKED = -1
-NOT_THERE = -2
-NOT_ODD = -3
-NO_FEATURES = -4
-FULL = -5
-
-NO_PARENT = -1
 MOST_GROUPS = 16
 MOST_RULES = 200
 MOST_WORDS = 64
@@ -43,6 +38,7 @@ def call_rule(language, told):
     rule = read_rule(group, block, told)
     if rule is None or not is_sound(language.sizes, rule):
         return [NOT_AS_ASKED]
+    find_cells(language.sizes, rule)
     return keep(language.rules, rule, MOST_RULES)
 
 
@@ -101,24 +97,17 @@ def keep(kept, thing, most):
     return [len(kept) - 1]
 
 
-def refuse_cell(language, word, values):
-    """Why one can't speak of this cell of this word, or None if one can."""
-    if not language.has_word(word):
-        return NOT_THERE
-    if not is_cell(language.sizes, values):
-        return NOT_AS_ASKED
-    return None
-
-
-# By the calls' numbers.
-CALLS = (call_new, call_group, call_rule, call_drop, call_word, call_odd, call_plain)
+# By the calls' numbers; those that only ask come behind.
+TELLING = (call_new, call_group, call_rule, call_drop, call_word, call_odd, call_plain)
 
 
 def answer(language, call, told):
     """What is answered to one call."""
     if call != NEW and not language.has_features():
         return [NO_FEATURES]
-    return CALLS[call](language, told)
+    if call < len(TELLING):
+        return TELLING[call](language, told)
+    return ASKING[call - len(TELLING)](language, told)
 
 
 def answers(calls):

@@ -1,6 +1,6 @@
 """Rules: to which class and block they belong, and what they do."""
 
-from formtablesyard.cells import is_condition
+from formtablesyard.cells import is_condition, list_cells, meets, number_cell, put_values
 
 PUT_BEHIND = 0
 PUT_AHEAD = 1
@@ -21,7 +21,11 @@ MOST_LIST_BYTES = 16
 
 
 class Rule:
-    """A rule as it was told; number is its k or j, lists are its bytes or the condition of TAKE_FROM_CELL."""
+    """A rule as it was told, and the cells that it's about.
+
+    number is its k or j, lists are its bytes or the condition of TAKE_FROM_CELL; cells are those that meet its
+    condition, sources tells of each of them the cell that it's taken from, if it's a rule of TAKE_FROM_CELL.
+    """
 
     def __init__(self, group, block, condition, doing):
         self.group = group
@@ -30,6 +34,8 @@ class Rule:
         self.doing = doing
         self.number = 0
         self.lists = []
+        self.cells = []
+        self.sources = {}
 
 
 def read_rule(group, block, told):
@@ -71,3 +77,12 @@ def fit_lists(sizes, rule):
         if len(part) > MOST_LIST_BYTES:
             return False
     return True
+
+
+def find_cells(sizes, rule):
+    """Note in a sound rule which cells it's about, so that this isn't sought anew for each question."""
+    for cell, values in enumerate(list_cells(sizes)):
+        if meets(values, rule.condition):
+            rule.cells.append(cell)
+            if rule.doing == TAKE_FROM_CELL:
+                rule.sources[cell] = number_cell(sizes, put_values(values, rule.lists[0]))

@@ -1,5 +1,9 @@
 """What a language holds between its calls."""
 
+from formtablesyard.cells import count_cells
+
+NO_PARENT = -1
+
 
 class Language:
     """Features' sizes, and by their numbers the classes' parents, the rules and the words."""
@@ -29,3 +33,15 @@ class Language:
     def has_word(self, word):
         """Whether there's a word with this number."""
         return 0 <= word < len(self.words)
+
+    def count_all_cells(self):
+        """How many cells there are."""
+        return count_cells(self.sizes)
+
+    def line(self, group):
+        """A class, its parent, that one's parent and so on."""
+        groups = []
+        while group != NO_PARENT:
+            groups.append(group)
+            group = self.parents[group]
+        return groups

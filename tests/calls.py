@@ -48,6 +48,38 @@ def plain(number, cell):
     return call(6, [number, *counted(cell)])
 
 
+def form(number, cell):
+    return call(7, [number, *counted(cell)])
+
+
+def table(number):
+    return call(8, [number])
+
+
+def why(number, cell):
+    return call(9, [number, *counted(cell)])
+
+
+def alike(number):
+    return call(10, [number])
+
+
+def find(letters):
+    return call(11, counted(letters))
+
+
+def may(stems, *pairs):
+    """Each of the pairs is a cell and a form's bytes."""
+    told = [*told_stems(stems), len(pairs)]
+    for cell, letters in pairs:
+        told += [*counted(cell), *counted(letters)]
+    return call(12, told)
+
+
+def parts(*stems):
+    return call(13, told_stems(stems))
+
+
 def flat(calls):
     numbers = []
     for one in calls:
@@ -57,22 +89,28 @@ def flat(calls):
 
 def split(numbers):
     """The answers, one list each, of what answers gives back."""
-    parts = []
+    given = []
     place = 0
     while place < len(numbers):
         end = place + 1 + numbers[place]
-        parts.append(numbers[place + 1:end])
+        given.append(numbers[place + 1:end])
         place = end
-    return parts
+    return given
+
+
+def told_back(calls, asked):
+    """What is answered to each of the calls that are asked, behind other calls."""
+    given = split(answers(flat([*calls, *asked])))
+    return given[len(calls):]
 
 
 def firsts(*calls):
     """The first number that is answered to each call, where each answer has just one."""
-    parts = split(answers(flat(calls)))
-    for part in parts:
-        if len(part) != 1:
-            raise ValueError(f"an answer of more or less than one number: {part}")
-    return [part[0] for part in parts]
+    given = split(answers(flat(calls)))
+    for one in given:
+        if len(one) != 1:
+            raise ValueError(f"an answer of more or less than one number: {one}")
+    return [one[0] for one in given]
 
 
 def last(*calls):

@@ -85,6 +85,38 @@ class WrittenForm(unittest.TestCase):
             if isinstance(node, ast.Name):
                 self.assertRegex(node.id, r"\A[A-Za-z][A-Za-z0-9_]*\Z", place)
 
+    def test_no_local_is_called_like_an_import_or_a_class(self):
+        for file in FILES:
+            tree = ast.parse(file.read_text())
+            taken = [alias.name for node in tree.body if isinstance(node, ast.ImportFrom) for alias in node.names]
+            taken += [node.name for node in tree.body if isinstance(node, (ast.ClassDef, ast.FunctionDef))]
+            for node in ast.walk(tree):
+                if isinstance(node, ast.Name) and isinstance(node.ctx, ast.Store):
+                    self.assertNotIn(node.id, taken, f"{file.name}:{node.lineno}")
+                if isinstance(node, ast.arg):
+                    self.assertNotIn(node.arg, taken, f"{file.name}:{node.lineno}")
+
+    def test_no_two_files_draw_from_one_another(self):
+        drawn = {}
+        for file in FILES:
+            rows = [node for node in ast.parse(file.read_text()).body if isinstance(node, ast.ImportFrom)]
+            drawn[file.stem] = {row.module.rpartition(".")[2] for row in rows}
+        while drawn:
+            free = [name for name in drawn if not drawn[name] & set(drawn)]
+            self.assertNotEqual(free, [], f"a ring among {sorted(drawn)}")
+            for name in free:
+                drawn.pop(name)
+
+    def test_tuples_of_a_files_top_hold_functions_of_that_file_alone(self):
+        for file in FILES:
+            tree = ast.parse(file.read_text())
+            defined = [node.name for node in tree.body if isinstance(node, ast.FunctionDef)]
+            for node in tree.body:
+                if isinstance(node, ast.Assign):
+                    for name in ast.walk(node.value):
+                        if isinstance(name, ast.Name):
+                            self.assertIn(name.id, defined, f"{file.name}:{node.lineno}")
+
     def test_methods(self):
         own = [node.name for place, node in walk() if isinstance(node, ast.FunctionDef)]
         for place, node in walk():
